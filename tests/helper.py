@@ -1,9 +1,9 @@
-"""What the tests share: the calls as rows, a run of them, and a look inside the world."""
+"""What the tests share: the calls as rows, a run of them through answers, and answers as they are told."""
 
-from wirepower.calls import Line, answer
 from wirepower.switch import answers
 
-NAMES = ("begin", "supply", "spare", "port", "plug", "unplug", "settle", "wish", "draw", "fault", "clear", "again")
+NAMES = ("begin", "supply", "spare", "port", "plug", "unplug", "settle", "wish", "draw", "fault", "clear", "again",
+         "deliver", "lose", "double", "calm", "tick", "look", "device", "power", "plan", "peek", "state")
 
 
 def begin(ports=4, cap=100, spare=0, amounts=(100000,)):
@@ -54,6 +54,63 @@ def again(p):
     return (11, p)
 
 
+def deliver(k):
+    return (12, k)
+
+
+def lose(k):
+    return (13, k)
+
+
+def double(k):
+    return (14, k)
+
+
+def calm():
+    return (15,)
+
+
+def tick(t):
+    return (16, t)
+
+
+def look(p):
+    return (17, p)
+
+
+def device(p):
+    return (18, p)
+
+
+def power_now():
+    return (19,)
+
+
+def plan():
+    return (20,)
+
+
+def peek(k):
+    return (21, k)
+
+
+def state():
+    return (22,)
+
+
+def wished(p, amount):
+    """A wish that comes to its port; the bag is empty before and behind."""
+    return (wish(p, amount), deliver(0))
+
+
+def everything(ports, messages):
+    """The calls that show all of a world that has so many ports, and at most so many messages."""
+    calls = [power_now(), plan(), state()]
+    for p in range(ports):
+        calls += [look(p), device(p)]
+    return calls + [peek(k) for k in range(messages)]
+
+
 def written(rows):
     calls = []
     for row in rows:
@@ -78,26 +135,34 @@ def last(*rows):
     return run(*rows)[-1]
 
 
+def then(rows, *calls):
+    """What the calls answer behind the rows, none of which may be refused."""
+    answered = run(*rows, *calls)
+    for row, answer in zip(rows, answered):
+        if answer[0] != 0:
+            raise AssertionError(f"{row} answered {answer}")
+    return answered[len(rows):]
+
+
 def power(can, may, reserved, drawn):
     return [0, can, may, reserved, drawn]
 
 
-def do(line, *rows):
-    return [answer(line, row[0], list(row[1:])) for row in rows]
+def seen(enabled=1, rank=0, most=30000, faulty=0, on=0, session=0, number=0, reserved=0, wish=(0, 0), energy=0,
+         grants=()):
+    """What look answers."""
+    answer = [0, enabled, rank, most, faulty, on, session, number, reserved, wish[0], wish[1], energy, len(grants)]
+    for grant in grants:
+        answer += list(grant)
+    return answer
 
 
-def line_after(*rows):
-    line = Line()
-    for row, answered in zip(rows, do(line, *rows)):
-        if answered[0] != 0:
-            raise AssertionError(f"{row} answered {answered}")
-    return line
+def lit(grants, wish, session=1, **others):
+    """What look answers of a port that is on."""
+    return seen(on=1, session=session, number=grants[-1][0], reserved=max(grant[1] for grant in grants), wish=wish,
+                grants=grants, **others)
 
 
-def inside(thing):
-    """All that an object holds, as plain values that can be compared."""
-    if isinstance(thing, (list, tuple)):
-        return [inside(part) for part in thing]
-    if hasattr(thing, "__dict__"):
-        return {name: inside(part) for name, part in vars(thing).items()}
-    return thing
+def bag_of(count):
+    """What state answers as long as no time has passed."""
+    return [0, 0, count, 0, 0]

@@ -1,10 +1,7 @@
 import unittest
 
-from tests.helper import (again, begin, clear, draw, fault, inside, line_after, plug, port, power, run, settle,
-                          spare, supply, unplug, wish)
-
-NEW_PORT = {"enabled": 1, "rank": 0, "most": 30000, "faulty": 0, "on": 0, "session": 0, "number": 0, "grants": [],
-            "wish_number": 0, "wish_amount": 0, "energy": 0, "device": None}
+from tests.helper import (again, begin, clear, deliver, device, draw, everything, fault, look, peek, plan, plug, port,
+                          power, power_now, run, seen, settle, spare, state, supply, then, tick, unplug, wish, wished)
 
 
 class Begin(unittest.TestCase):
@@ -38,26 +35,29 @@ class Begin(unittest.TestCase):
             self.assertEqual(run(call, settle()), [[-1], [-9]], call)
 
     def test_every_part_of_a_new_world(self):
-        world = line_after(begin(ports=2, cap=9, spare=1, amounts=(5, 6))).world
-        self.assertEqual(inside(world), {
-            "now": 0, "could": 0, "cap": 9, "spare": 1, "bag": [],
-            "supplies": [{"amount": 5, "on": 1}, {"amount": 6, "on": 1}],
-            "ports": [dict(NEW_PORT, place=0), dict(NEW_PORT, place=1)],
-        })
+        answered = then((begin(ports=2, cap=9, spare=1, amounts=(5, 6)),), look(0), look(1), look(2), device(0),
+                        device(1), power_now(), plan(), state(), peek(0), supply(0, 1), supply(1, 1))
+        self.assertEqual(answered, [seen(), seen(), [-1], [-2], [-2], power(11, 5, 0, 0), [0, 0], [0, 0, 0, 0, 0],
+                                    [-1], [-2], [-2]])
+
+    def test_the_bag_holds_cap_messages(self):
+        for cap in (1, 2, 9):
+            answered = then((begin(1, cap), plug(0, 1), settle()), *[again(0)] * (cap + 1), state())
+            self.assertEqual(answered, [[0]] * cap + [[-4], [0, 0, cap, 0, 0]])
 
     def test_a_second_begin_makes_a_new_world(self):
-        used = (begin(2, 1, 0, (50000, 1)), port(1, 1, 3, 5), plug(0, 4), plug(1, 1), settle(), wish(0, 5),
-                fault(1), supply(1, 0))
+        used = (begin(2, 1, 0, (50000, 1)), port(1, 1, 3, 5), plug(0, 4), plug(1, 1), settle(), draw(0, 7), tick(9),
+                *wished(1, 6000), wish(0, 5), fault(1), supply(1, 0))
         new = begin(3, 2, 1, (50, 60))
-        self.assertEqual(inside(line_after(*used, new)), inside(line_after(new)))
-        answered = run(*used, new, settle(), plug(2, 1), draw(0, 1), unplug(0), clear(1), supply(1, 0))
-        self.assertEqual(answered[len(used):], [[0], power(110, 50, 0, 0), [0], [-2], [-2], [-2], power(50, 0, 0, 0)])
+        self.assertEqual(then(used + (new,), *everything(3, 2)), then((new,), *everything(3, 2)))
+        answered = then(used + (new,), settle(), plug(2, 1), draw(0, 1), unplug(0), clear(1), deliver(0), supply(1, 0))
+        self.assertEqual(answered, [power(110, 50, 0, 0), [0], [-2], [-2], [-2], [-1], power(50, 0, 0, 0)])
 
     def test_a_refused_second_begin_leaves_the_world(self):
         used = (begin(2, 1, 0, (50000,)), plug(0, 4), settle(), draw(0, 100))
         for wrong in (begin(0), begin(amounts=()), begin(amounts=(0,)), begin(cap=0), begin(spare=2)):
-            answered = run(*used, wrong, spare(0), wish(0, 1), again(0))
-            self.assertEqual(answered[len(used):], [[-1], power(50000, 50000, 30000, 100), [0, 1], [-4]])
+            answered = then(used, wrong, spare(0), wish(0, 1), again(0))
+            self.assertEqual(answered, [[-1], power(50000, 50000, 30000, 100), [0, 1], [-4]])
 
 
 if __name__ == "__main__":

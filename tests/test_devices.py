@@ -1,7 +1,7 @@
 import unittest
 
-from tests.helper import (again, begin, clear, do, draw, fault, inside, last, line_after, plug, port, power, run,
-                          settle, unplug, wish)
+from tests.helper import (again, begin, calm, clear, device, draw, everything, fault, last, lit, look, peek, plug, port,
+                          power, run, seen, settle, state, then, tick, unplug, wish)
 
 LIT = (begin(2, 3), plug(1, 3), settle())
 
@@ -15,13 +15,14 @@ class Wish(unittest.TestCase):
         self.assertEqual(answered[4:], [[0, 1], [0, 2], [0, 1], [0, 3]])
 
     def test_what_the_message_holds(self):
-        line = line_after(*LIT, port(1, 0), port(1, 1), settle(), wish(1, 5), wish(1, 9))
-        self.assertEqual(line.world.bag, [(2, 1, 2, 1, 5), (2, 1, 2, 2, 9)])
+        second = (*LIT, port(1, 0), port(1, 1), settle(), wish(1, 5), wish(1, 9))
+        self.assertEqual(then(second, peek(0), peek(1), peek(2), device(1)),
+                         [[0, 2, 1, 2, 1, 5], [0, 2, 1, 2, 2, 9], [-1], [0, 3, 2, 0, 15400, 0, 2]])
 
-    def test_the_port_has_no_other_wish_yet(self):
-        line = line_after(*LIT, wish(1, 20000), settle())
-        wished = line.world.ports[1]
-        self.assertEqual((wished.wish_number, wished.wish_amount, wished.grants), (0, 15400, [(0, 15400)]))
+    def test_the_port_has_it_only_when_it_is_delivered(self):
+        before = lit([(0, 15400)], (0, 15400))
+        behind = lit([(0, 15400)], (1, 20000))
+        self.assertEqual(then((*LIT, wish(1, 20000), settle()), look(1), calm(), look(1)), [before, [0, 1], behind])
 
     def test_refusals(self):
         full = (wish(1, 1), wish(1, 1), wish(1, 1))
@@ -33,10 +34,10 @@ class Wish(unittest.TestCase):
         self.assertEqual(last(*LIT, *full, wish(1, 100001)), [-1])
 
     def test_a_refused_wish_is_not_counted(self):
-        line = line_after(*LIT, wish(1, 1), wish(1, 1), wish(1, 1))
-        before = inside(line)
-        self.assertEqual(do(line, wish(1, 1)), [[-4]])
-        self.assertEqual(inside(line), before)
+        full = (*LIT, wish(1, 1), wish(1, 1), wish(1, 1))
+        shown = everything(2, 3)
+        self.assertEqual(then(full, *shown, wish(1, 1), *shown), then(full, *shown) + [[-4]] + then(full, *shown))
+        self.assertEqual(then(full, wish(1, 1), calm(), wish(1, 1)), [[-4], [0, 3], [0, 4]])
 
 
 class Draw(unittest.TestCase):
@@ -73,12 +74,9 @@ class Fault(unittest.TestCase):
         self.assertEqual(run(begin(2), fault(0), plug(1, 3), fault(1), clear(0), clear(1))[3:], [[-3], [-2], [-2]])
 
     def test_what_a_cut_leaves(self):
-        line = line_after(*LIT, wish(1, 7), draw(1, 7), fault(1))
-        self.assertEqual(inside(line.world.ports[1]), {
-            "place": 1, "enabled": 1, "rank": 0, "most": 30000, "faulty": 1, "on": 0, "session": 1, "number": 0,
-            "grants": [], "wish_number": 0, "wish_amount": 0, "energy": 0,
-            "device": {"power_class": 3, "session": 0, "number": 0, "limit": 0, "draws": 0, "asked": 0}})
-        self.assertEqual(line.world.bag, [(2, 1, 1, 1, 7)])
+        answered = then((*LIT, wish(1, 7), draw(1, 7), tick(2), fault(1)), look(1), device(1), peek(0), peek(1))
+        self.assertEqual(answered, [seen(faulty=1, session=1, energy=14), [0, 3, 0, 0, 0, 0, 0], [0, 2, 1, 1, 1, 7],
+                                    [-1]])
 
 
 class Clear(unittest.TestCase):
@@ -93,8 +91,8 @@ class Clear(unittest.TestCase):
 
 class Again(unittest.TestCase):
     def test_puts_the_latest_grant(self):
-        line = line_after(*LIT, again(1), fault(1), clear(1), settle(), again(1))
-        self.assertEqual(line.world.bag, [(0, 1, 1, 0, 15400), (0, 1, 2, 0, 15400)])
+        answered = then((*LIT, again(1), fault(1), clear(1), settle(), again(1)), peek(0), peek(1), state())
+        self.assertEqual(answered, [[0, 0, 1, 1, 0, 15400], [0, 0, 1, 2, 0, 15400], [0, 0, 2, 0, 0]])
 
     def test_until_the_bag_is_full(self):
         self.assertEqual(run(*LIT, again(1), wish(1, 4), again(1), again(1), wish(1, 4), fault(1), again(1))[3:],

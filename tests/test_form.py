@@ -9,7 +9,7 @@ import sys
 import unittest
 
 import wirepower
-from tests.helper import begin, plug, settle, written
+from tests.helper import begin, calm, everything, plug, settle, wish, written
 from wirepower.switch import answers
 
 FOLDER = os.path.dirname(os.path.abspath(wirepower.__file__))
@@ -64,7 +64,7 @@ class Quiet(unittest.TestCase):
         loaded = set(sys.modules)
         said = io.StringIO()
         with contextlib.redirect_stdout(said), contextlib.redirect_stderr(said):
-            answers(written((begin(), plug(0, 1), settle(), begin(0))))
+            answers(written((begin(), plug(0, 1), settle(), wish(0, 9), calm(), settle(), *everything(4, 2), begin(0))))
         self.assertEqual((said.getvalue(), set(sys.modules) - loaded), ("", set()))
 
 

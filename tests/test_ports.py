@@ -1,15 +1,13 @@
 import unittest
 
-from tests.helper import again, begin, draw, fault, inside, line_after, plug, port, power, run, settle, unplug, wish
+from tests.helper import (again, begin, device, draw, fault, look, peek, plug, port, power, run, seen, settle, then,
+                          tick, unplug, wish)
 
 
 class Port(unittest.TestCase):
     def test_has_what_is_told(self):
-        world = line_after(begin(2), port(1, 0, 3, 100000)).world
-        changed = world.ports[1]
-        self.assertEqual((changed.enabled, changed.rank, changed.most), (0, 3, 100000))
-        same = world.ports[0]
-        self.assertEqual((same.enabled, same.rank, same.most), (1, 0, 30000))
+        answered = then((begin(2), port(1, 0, 3, 100000)), look(1), look(0), port(1, 1, 2, 0), look(1))
+        self.assertEqual(answered, [seen(enabled=0, rank=3, most=100000), seen(), [0], seen(rank=2, most=0)])
 
     def test_not_enabled_is_cut(self):
         answered = run(begin(2), plug(0, 4), plug(1, 1), settle(), draw(0, 9), draw(1, 5), port(0, 0), draw(0, 9),
@@ -29,11 +27,9 @@ class Port(unittest.TestCase):
         self.assertEqual(run(begin(2, 9, 0, (30000,)), port(0, 1, 3), port(1, 1, 3), *lit)[-2:], [[0, 1], [-3]])
 
     def test_a_cut_port_keeps_its_session_and_its_device(self):
-        line = line_after(begin(1), plug(0, 4), settle(), wish(0, 7), draw(0, 7), port(0, 0, 1, 2))
-        self.assertEqual(inside(line.world.ports), [{
-            "place": 0, "enabled": 0, "rank": 1, "most": 2, "faulty": 0, "on": 0, "session": 1, "number": 0,
-            "grants": [], "wish_number": 0, "wish_amount": 0, "energy": 0,
-            "device": {"power_class": 4, "session": 0, "number": 0, "limit": 0, "draws": 0, "asked": 0}}])
+        answered = then((begin(1), plug(0, 4), settle(), wish(0, 7), draw(0, 7), tick(3), port(0, 0, 1, 2)),
+                        look(0), device(0))
+        self.assertEqual(answered, [seen(enabled=0, rank=1, most=2, session=1, energy=21), [0, 4, 0, 0, 0, 0, 0]])
 
     def test_off_ports_and_ports_without_a_device_can_be_set(self):
         self.assertEqual(run(begin(1), port(0, 0), port(0, 0), port(0, 1)), [[0]] * 4)
@@ -46,9 +42,7 @@ class Plug(unittest.TestCase):
             self.assertEqual(answered[1:], [[0], power(100000, 100000, base, 0), [0, base]])
 
     def test_a_new_device_is_all_zero_but_for_its_class(self):
-        world = line_after(begin(1), plug(0, 3)).world
-        self.assertEqual(inside(world.ports[0].device), {
-            "power_class": 3, "session": 0, "number": 0, "limit": 0, "draws": 0, "asked": 0})
+        self.assertEqual(then((begin(1), plug(0, 3)), device(0), look(0)), [[0, 3, 0, 0, 0, 0, 0], seen()])
 
     def test_lights_nothing(self):
         self.assertEqual(run(begin(1), plug(0, 3), draw(0, 1), again(0)), [[0], [0], [-3], [-3]])
@@ -64,8 +58,8 @@ class Plug(unittest.TestCase):
 
 class Unplug(unittest.TestCase):
     def test_cuts_and_has_none(self):
-        answered = run(begin(1), plug(0, 4), settle(), draw(0, 8), unplug(0), draw(0, 8), again(0), settle(), plug(0, 1),
-                       settle())
+        answered = run(begin(1), plug(0, 4), settle(), draw(0, 8), unplug(0), draw(0, 8), again(0), settle(),
+                       plug(0, 1), settle())
         self.assertEqual(answered[4:], [[0], [-2], [-3], power(100000, 100000, 0, 0), [0],
                                         power(100000, 100000, 4000, 0)])
 
@@ -74,16 +68,13 @@ class Unplug(unittest.TestCase):
         self.assertEqual(answered, [[0], [-2], [0], [-2], [0], [-2]])
 
     def test_session_rank_and_fault_stay(self):
-        line = line_after(begin(1), port(0, 1, 3, 9), plug(0, 4), settle(), wish(0, 3), fault(0), unplug(0))
-        self.assertEqual(inside(line.world.ports), [{
-            "place": 0, "enabled": 1, "rank": 3, "most": 9, "faulty": 1, "on": 0, "session": 1, "number": 0,
-            "grants": [], "wish_number": 0, "wish_amount": 0, "energy": 0, "device": None}])
-        self.assertEqual(line.world.bag, [(2, 0, 1, 1, 3)])
+        answered = then((begin(1), port(0, 1, 3, 9), plug(0, 4), settle(), wish(0, 3), fault(0), unplug(0)),
+                        look(0), device(0), peek(0))
+        self.assertEqual(answered, [seen(rank=3, most=9, faulty=1, session=1), [-2], [0, 2, 0, 1, 1, 3]])
 
     def test_a_lit_port_is_off_without_its_device(self):
-        line = line_after(begin(1), plug(0, 4), settle(), unplug(0))
-        unplugged = line.world.ports[0]
-        self.assertEqual((unplugged.on, unplugged.session, unplugged.grants, unplugged.wish_amount), (0, 1, [], 0))
+        self.assertEqual(then((begin(1), plug(0, 4), settle(), unplug(0)), look(0), device(0)),
+                         [seen(session=1), [-2]])
 
     def test_asking_starts_anew_with_the_next_device(self):
         answered = run(begin(1), plug(0, 4), settle(), wish(0, 3), wish(0, 3), unplug(0), plug(0, 4), settle(),

@@ -1,7 +1,7 @@
 import unittest
 
-from tests.helper import (again, begin, draw, fault, inside, last, line_after, plug, port, power, run, settle, spare,
-                          supply, wish)
+from tests.helper import (again, begin, device, draw, fault, last, look, peek, plug, port, power, run, seen, settle,
+                          spare, supply, then, tick, wish)
 
 
 class Supply(unittest.TestCase):
@@ -65,13 +65,10 @@ class Supply(unittest.TestCase):
         self.assertEqual(answered[-3:], [power(15400, 15400, 15400, 0), [0, 1], [-3]])
 
     def test_what_a_cut_leaves(self):
-        line = line_after(begin(1, 9, 0, (30000,)), port(0, 1, 2, 5), plug(0, 4), settle(), wish(0, 7), draw(0, 7),
-                          again(0), supply(0, 0))
-        self.assertEqual(inside(line.world.ports), [{
-            "place": 0, "enabled": 1, "rank": 2, "most": 5, "faulty": 0, "on": 0, "session": 1, "number": 0,
-            "grants": [], "wish_number": 0, "wish_amount": 0, "energy": 0,
-            "device": {"power_class": 4, "session": 0, "number": 0, "limit": 0, "draws": 0, "asked": 0}}])
-        self.assertEqual(line.world.bag, [(2, 0, 1, 1, 7), (0, 0, 1, 0, 30000)])
+        answered = then((begin(1, 9, 0, (30000,)), port(0, 1, 2, 5), plug(0, 4), settle(), wish(0, 7), draw(0, 7),
+                         tick(1), again(0), supply(0, 0)), look(0), device(0), peek(0), peek(1), peek(2))
+        self.assertEqual(answered, [seen(rank=2, most=5, session=1, energy=7), [0, 4, 0, 0, 0, 0, 0],
+                                    [0, 2, 0, 1, 1, 7], [0, 0, 0, 1, 0, 30000], [-1]])
 
 
 class Spare(unittest.TestCase):

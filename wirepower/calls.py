@@ -1,11 +1,15 @@
 """The calls: what each refuses, does and answers."""
 
+from wirepower.bag import bag_is_full, put
+from wirepower.messages import deliver, deliver_all
 from wirepower.plan import settle_ports
-from wirepower.ports import ask, bag_is_full, cut, tell
-from wirepower.world import Device, World, all_drawn, all_reserved, can_give, may_give, order_of_ports
+from wirepower.ports import ask, cut, tell
+from wirepower.ranges import are_in_range, can_begin
+from wirepower.views import device_view, plan_view, port_view, power_view, state_view
+from wirepower.world import Device, World, all_reserved, can_give, drawn_at, order_of_ports
 
 OUT_OF_RANGE = -1
-# Of a supply, a device or a fault: it isn't there, or is already as it is asked to be.
+# Of a supply, a device or a fault: it isn't there, or is already as it is asked to be. Of time: too much.
 WRONG_STATE = -2
 PORT_OFF = -3
 BAG_FULL = -4
@@ -13,31 +17,7 @@ NO_WORLD = -9
 
 BEGIN = 0
 
-RANGES = {
-    "ports": (1, 48),
-    "cap": (1, 10000),
-    "bit": (0, 1),
-    "supply amount": (1, 10000000),
-    "rank": (0, 3),
-    "class": (1, 4),
-    "amount": (0, 100000),
-}
-
-# The ranges of each call's numbers, by the call's place; begin, at place 0, has a check of its own.
-NUMBERS = (
-    (),
-    ("supply", "bit"),
-    ("bit",),
-    ("port", "bit", "rank", "amount"),
-    ("port", "class"),
-    ("port",),
-    (),
-    ("port", "amount"),
-    ("port", "amount"),
-    ("port",),
-    ("port",),
-    ("port",),
-)
+LAST_MOMENT = 100000000
 
 
 # What one list of calls works on: begin makes a new world, which no call can do to the world itself.
@@ -46,41 +26,11 @@ class Line:
         self.world = None
 
 
-def is_within(number, ends):
-    return ends[0] <= number <= ends[1]
-
-
-def ends_of(world, name):
-    if name == "port":
-        return (0, len(world.ports) - 1)
-    if name == "supply":
-        return (0, len(world.supplies) - 1)
-    return RANGES[name]
-
-
-def are_in_range(world, place, numbers):
-    return all([is_within(number, ends_of(world, name)) for number, name in zip(numbers, NUMBERS[place])])
-
-
-def can_begin(numbers):
-    amounts = numbers[3:]
-    if not is_within(len(amounts), (1, 4)):
-        return False
-    if not all([is_within(amount, RANGES["supply amount"]) for amount in amounts]):
-        return False
-    return (is_within(numbers[0], RANGES["ports"]) and is_within(numbers[1], RANGES["cap"])
-            and is_within(numbers[2], RANGES["bit"]))
-
-
 def begin(line, numbers):
     if not can_begin(numbers):
         return [OUT_OF_RANGE]
     line.world = World(numbers[0], numbers[1], numbers[2], numbers[3:])
     return [0]
-
-
-def power_answer(world):
-    return [0, can_give(world), may_give(world), all_reserved(world), all_drawn(world)]
 
 
 def cut_what_is_too_much(world):
@@ -95,12 +45,12 @@ def answer_supply(world, numbers):
         return [WRONG_STATE]
     supply.on = numbers[1]
     cut_what_is_too_much(world)
-    return power_answer(world)
+    return [0] + power_view(world)
 
 
 def answer_spare(world, numbers):
     world.spare = numbers[0]
-    return power_answer(world)
+    return [0] + power_view(world)
 
 
 def answer_port(world, numbers):
@@ -132,7 +82,7 @@ def answer_unplug(world, numbers):
 
 def answer_settle(world, numbers):
     settle_ports(world)
-    return power_answer(world)
+    return [0] + power_view(world)
 
 
 # 0 where nothing is to be refused.
@@ -193,6 +143,65 @@ def answer_again(world, numbers):
     return [0]
 
 
+def answer_deliver(world, numbers):
+    deliver(world, numbers[0])
+    return [0, len(world.bag)]
+
+
+def answer_lose(world, numbers):
+    world.bag.pop(numbers[0])
+    return [0]
+
+
+def answer_double(world, numbers):
+    if bag_is_full(world):
+        return [BAG_FULL]
+    put(world, world.bag[numbers[0]])
+    return [0]
+
+
+def answer_calm(world, numbers):
+    return [0, deliver_all(world)]
+
+
+def answer_tick(world, numbers):
+    passed = numbers[0]
+    if world.now + passed > LAST_MOMENT:
+        return [WRONG_STATE]
+    world.now += passed
+    world.could += passed * can_give(world)
+    for port in world.ports:
+        port.energy += passed * drawn_at(port)
+    return [0, world.now]
+
+
+def answer_look(world, numbers):
+    return [0] + port_view(world.ports[numbers[0]])
+
+
+def answer_device(world, numbers):
+    device = world.ports[numbers[0]].device
+    if device is None:
+        return [WRONG_STATE]
+    return [0] + device_view(device)
+
+
+def answer_power(world, numbers):
+    return [0] + power_view(world)
+
+
+def answer_plan(world, numbers):
+    return [0] + plan_view(world)
+
+
+def answer_peek(world, numbers):
+    return [0] + list(world.bag[numbers[0]])
+
+
+def answer_state(world, numbers):
+    return [0] + state_view(world)
+
+
 # By the call's place; None stands for begin, which alone is called without a world.
 CALLS = (
     None,
@@ -207,6 +216,17 @@ CALLS = (
     answer_fault,
     answer_clear,
     answer_again,
+    answer_deliver,
+    answer_lose,
+    answer_double,
+    answer_calm,
+    answer_tick,
+    answer_look,
+    answer_device,
+    answer_power,
+    answer_plan,
+    answer_peek,
+    answer_state,
 )
 
 

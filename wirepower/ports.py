@@ -1,20 +1,9 @@
 """What happens to a port: it is cut, lit, tells its latest grant, is given an amount."""
 
+from wirepower.bag import GRANT_MESSAGE, WISH_MESSAGE, put
 from wirepower.world import base_of
 
 MOST_GRANTS = 8
-
-GRANT_MESSAGE = 0
-WISH_MESSAGE = 2
-
-
-def bag_is_full(world):
-    return len(world.bag) >= world.cap
-
-
-def put(world, message):
-    if not bag_is_full(world):
-        world.bag.append(message)
 
 
 def restart_device(device, session, limit):

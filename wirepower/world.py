@@ -1,4 +1,4 @@
-"""What there is: the world with its supplies, ports and devices, and the sums of power over them."""
+"""What there is: the world with its supplies, ports and devices, and the sums over them."""
 
 FIRST_MOST = 30000
 
@@ -87,6 +87,10 @@ def drawn_at(port):
 
 def all_drawn(world):
     return sum([drawn_at(port) for port in world.ports])
+
+
+def all_energy(world):
+    return sum([port.energy for port in world.ports])
 
 
 def order_of_ports(world):
